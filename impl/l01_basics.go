@@ -147,13 +147,17 @@ func isCoded(n int64) bool {
 	return isBetween(n, -MaxCoded, MaxCoded)
 }
 
-func areCoded(list []int64) bool {
+func areBetween(list []int64, least, greatest int64) bool {
 	for _, n := range list {
-		if !isCoded(n) {
+		if !isBetween(n, least, greatest) {
 			return false
 		}
 	}
-	return len(list) <= MaxItems
+	return true
+}
+
+func areCoded(list []int64) bool {
+	return len(list) <= MaxItems && areBetween(list, -MaxCoded, MaxCoded)
 }
 
 // eachOf returns a new list with the images of all elements.

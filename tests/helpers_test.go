@@ -22,13 +22,33 @@ func shown(v any) string {
 	return s[:min(len(s), 300)]
 }
 
+// filled returns a deep copy of a value with empty slices for nil ones, which are the same values.
+func filled(v reflect.Value) reflect.Value {
+	c := reflect.New(v.Type()).Elem()
+	switch v.Kind() {
+	case reflect.Slice:
+		c.Set(reflect.MakeSlice(v.Type(), v.Len(), v.Len()))
+		reflect.Copy(c, v)
+		if kind := v.Type().Elem().Kind(); kind != reflect.Slice && kind != reflect.Struct {
+			return c
+		}
+		for i := range v.Len() {
+			c.Index(i).Set(filled(v.Index(i)))
+		}
+	case reflect.Struct:
+		for i := range v.NumField() {
+			c.Field(i).Set(filled(v.Field(i)))
+		}
+	default:
+		c.Set(v)
+	}
+	return c
+}
+
 // results collects the results of one call, with empty slices for nil ones.
 func results(values ...any) []any {
 	for i, v := range values {
-		r := reflect.ValueOf(v)
-		if r.Kind() == reflect.Slice && r.IsNil() {
-			values[i] = reflect.MakeSlice(r.Type(), 0, 0).Interface()
-		}
+		values[i] = filled(reflect.ValueOf(v)).Interface()
 	}
 	return values
 }
@@ -40,8 +60,8 @@ func fails(t *testing.T, what string, values ...any) {
 		t.Errorf("%s: succeeds, but must fail", what)
 	}
 	for i, v := range values[:len(values)-1] {
-		r := reflect.ValueOf(v)
-		if !r.IsZero() && !(r.Kind() == reflect.Slice && r.Len() == 0) {
+		zero := reflect.Zero(reflect.TypeOf(v)).Interface()
+		if !reflect.DeepEqual(results(v), results(zero)) {
 			t.Errorf("%s: result %d of a failure is %s", what, i, shown(v))
 		}
 	}
@@ -56,6 +76,62 @@ func withSpare(list []int64) []int64 {
 // hasSpare reports whether a list from withSpare is unchanged.
 func hasSpare(list, before []int64) bool {
 	return slices.Equal(list, before) && slices.Equal(list[:len(list)+3][len(list):], []int64{7777, 8888, 9999})
+}
+
+// wholeText shows a value with the unused capacity of all its slices.
+func wholeText(v reflect.Value) string {
+	var text strings.Builder
+	switch v.Kind() {
+	case reflect.Slice:
+		whole := v.Slice(0, v.Cap())
+		fmt.Fprint(&text, v.Len(), "[")
+		for i := range whole.Len() {
+			text.WriteString(wholeText(whole.Index(i)) + ",")
+		}
+		text.WriteString("]")
+	case reflect.Struct:
+		for i := range v.NumField() {
+			text.WriteString(wholeText(v.Field(i)) + ";")
+		}
+	default:
+		fmt.Fprint(&text, v.Interface())
+	}
+	return text.String()
+}
+
+// memoryOf returns where the memory of each slice in a value begins and ends, with its unused capacity.
+func memoryOf(v reflect.Value) [][2]uintptr {
+	var parts [][2]uintptr
+	switch v.Kind() {
+	case reflect.Slice:
+		if v.Cap() > 0 {
+			parts = append(parts, [2]uintptr{v.Pointer(), v.Pointer() + uintptr(v.Cap())*v.Type().Elem().Size()})
+		}
+		for i := range v.Len() {
+			parts = append(parts, memoryOf(v.Index(i))...)
+		}
+	case reflect.Struct:
+		for i := range v.NumField() {
+			parts = append(parts, memoryOf(v.Field(i))...)
+		}
+	}
+	return parts
+}
+
+// sharesMemory reports whether two slices in the results of a call share memory, or one of them and one in the arguments.
+func sharesMemory(arguments any, call []any) bool {
+	others := memoryOf(reflect.ValueOf(arguments))
+	for _, result := range call {
+		for _, part := range memoryOf(reflect.ValueOf(result)) {
+			for _, other := range others {
+				if part[0] < other[1] && other[0] < part[1] {
+					return true
+				}
+			}
+			others = append(others, part)
+		}
+	}
+	return false
 }
 
 func repeated(n int64, count int) []int64 {
