@@ -6,6 +6,7 @@ import (
 	"reflect"
 	"slices"
 	"strings"
+	"sync"
 	"testing"
 )
 
@@ -132,6 +133,99 @@ func sharesMemory(arguments any, call []any) bool {
 		}
 	}
 	return false
+}
+
+// sparedCopy returns a deep copy of arguments whose slices have unused capacity with numbers that no function writes.
+func sparedCopy[A any](x A) A {
+	return spared(reflect.ValueOf(x)).Interface().(A)
+}
+
+func spared(v reflect.Value) reflect.Value {
+	c := reflect.New(v.Type()).Elem()
+	switch v.Kind() {
+	case reflect.Slice:
+		whole := reflect.MakeSlice(v.Type(), v.Len()+2, v.Len()+2)
+		for i := range v.Len() {
+			whole.Index(i).Set(spared(v.Index(i)))
+		}
+		for i := v.Len(); i < whole.Len(); i++ {
+			mark(whole.Index(i))
+		}
+		c.Set(whole.Slice(0, v.Len()))
+	case reflect.Struct:
+		for i := range v.NumField() {
+			c.Field(i).Set(spared(v.Field(i)))
+		}
+	default:
+		c.Set(v)
+	}
+	return c
+}
+
+// mark sets all numbers in a value of unused capacity.
+func mark(v reflect.Value) {
+	switch v.Kind() {
+	case reflect.Int64:
+		v.SetInt(7777)
+	case reflect.Struct:
+		for i := range v.NumField() {
+			mark(v.Field(i))
+		}
+	}
+}
+
+func filledCalls(calls [][]any) [][]any {
+	var all [][]any
+	for _, call := range calls {
+		all = append(all, results(slices.Clone(call)...))
+	}
+	return all
+}
+
+// callEvery calls functions with all arguments: failures have zero results, calls repeat themselves, no argument changes, and no result shares memory. Each function must succeed as often as least, or more.
+func callEvery[A any](t *testing.T, list []A, callAll func(A) [][]any, least int) {
+	t.Helper()
+	succeeded := make([]int, len(callAll(list[0])))
+	for _, x := range list {
+		spare := sparedCopy(x)
+		before := wholeText(reflect.ValueOf(spare))
+		calls := callAll(spare)
+		if wholeText(reflect.ValueOf(spare)) != before {
+			t.Fatalf("an argument has changed: %s", before)
+		}
+		for i, call := range calls {
+			if call[len(call)-1] == false {
+				fails(t, "call", call...)
+			} else {
+				succeeded[i]++
+			}
+			if sharesMemory(spare, call) {
+				t.Fatalf("result %s of call %d shares memory", shown(call), i)
+			}
+		}
+		if again := filledCalls(callAll(x)); !reflect.DeepEqual(filledCalls(calls), again) {
+			t.Fatalf("equal arguments, other results: %s and %s", shown(calls), shown(again))
+		}
+	}
+	for i, count := range succeeded {
+		if count < least {
+			t.Errorf("function %d has succeeded only %d times", i, count)
+		}
+	}
+}
+
+// callTogether calls functions at the same time with the same arguments, which they only read.
+func callTogether[A any](t *testing.T, list []A, callAll func(A) [][]any) {
+	t.Helper()
+	got := make([][][]any, 8*len(list))
+	var group sync.WaitGroup
+	for i := range got {
+		group.Go(func() { got[i] = filledCalls(callAll(list[i%len(list)])) })
+	}
+	group.Wait()
+	for i, calls := range got {
+		same(t, "calls", calls, got[i%len(list)])
+	}
 }
 
 func repeated(n int64, count int) []int64 {

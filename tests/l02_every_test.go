@@ -6,7 +6,6 @@ import (
 	"reflect"
 	"slices"
 	"strings"
-	"sync"
 	"testing"
 
 	"loop.example/g01105/impl"
@@ -62,34 +61,6 @@ func allOfChapter2(x arguments2) [][]any {
 	return all
 }
 
-func filledCalls(calls [][]any) [][]any {
-	var all [][]any
-	for _, call := range calls {
-		all = append(all, results(slices.Clone(call)...))
-	}
-	return all
-}
-
-// spareTerm returns a deep copy of a term, with unused capacity.
-func spareTerm(t impl.Term) impl.Term {
-	return impl.Term{Const: t.Const, Coeffs: withSpare(t.Coeffs)}
-}
-
-func spareTerms(list []impl.Term) []impl.Term {
-	var spare []impl.Term
-	for _, t := range list {
-		spare = append(spare, spareTerm(t))
-	}
-	return append(spare, fact(7777, 1), fact(8888), fact(9999, 2))[:len(list)]
-}
-
-func spareArguments(x arguments2) arguments2 {
-	return arguments2{
-		spareTerm(x.A), spareTerm(x.B), spareTerms(x.List), withSpare(x.Values), withSpare(x.Multipliers),
-		impl.Sequent{Facts: spareTerms(x.Sequent.Facts), Goal: spareTerm(x.Sequent.Goal)}, x.Number, x.Text,
-	}
-}
-
 // short leaves out arguments that are so long that many calls with them take too much time.
 func short[T any](list []T) []T {
 	return slices.DeleteFunc(list, func(x T) bool { return len(wholeText(reflect.ValueOf(x))) > 2000 })
@@ -119,35 +90,8 @@ func someArguments2(count int) []arguments2 {
 	return all
 }
 
-// TestEveryFunctionOfChapter2 calls each function: failures have zero results, calls repeat themselves, no argument changes, and no result shares memory.
 func TestEveryFunctionOfChapter2(t *testing.T) {
-	succeeded := map[int]int{}
-	for _, x := range someArguments2(3000) {
-		spare := spareArguments(x)
-		before := wholeText(reflect.ValueOf(spare))
-		calls := allOfChapter2(spare)
-		if wholeText(reflect.ValueOf(spare)) != before {
-			t.Fatalf("an argument has changed: %s", before)
-		}
-		for i, call := range calls {
-			if call[len(call)-1] == false {
-				fails(t, "call", call...)
-			} else {
-				succeeded[i]++
-			}
-			if sharesMemory(spare, call) {
-				t.Fatalf("result %s of call %d shares memory", shown(call), i)
-			}
-		}
-		if again := filledCalls(allOfChapter2(x)); !reflect.DeepEqual(filledCalls(calls), again) {
-			t.Fatalf("equal arguments, other results: %s and %s", shown(calls), shown(again))
-		}
-	}
-	for i := range 19 {
-		if succeeded[i] < 20 {
-			t.Errorf("function %d has succeeded only %d times", i, succeeded[i])
-		}
-	}
+	callEvery(t, someArguments2(3000), allOfChapter2, 20)
 }
 
 // TestLongArgumentsOfChapter2 calls each function once with arguments that are much too long.
@@ -171,23 +115,13 @@ func TestNilAndEmptyAreTheSame(t *testing.T) {
 	same(t, "nil and empty", filledCalls(allOfChapter2(one)), filledCalls(allOfChapter2(two)))
 }
 
-// TestSharedArguments calls the functions at the same time with the same arguments, which they only read.
 func TestSharedArguments(t *testing.T) {
-	all := someArguments2(40)
-	got := make([][][]any, 8*len(all))
-	var group sync.WaitGroup
-	for i := range got {
-		group.Go(func() { got[i] = filledCalls(allOfChapter2(all[i%len(all)])) })
-	}
-	group.Wait()
-	for i, calls := range got {
-		same(t, "calls", calls, got[i%len(all)])
-	}
+	callTogether(t, someArguments2(40), allOfChapter2)
 }
 
 // TestResultsAreNew writes into results and their unused capacity; arguments and later results must not change.
 func TestResultsAreNew(t *testing.T) {
-	s := impl.Sequent{Facts: spareTerms([]impl.Term{fact(1, 2, 3), alone(9, 4)}), Goal: spareTerm(fact(5, 6))}
+	s := sparedCopy(sequent(fact(5, 6), fact(1, 2, 3), alone(9, 4)))
 	before := wholeText(reflect.ValueOf(s))
 	for range 2 {
 		context, _ := impl.ContextOf(s)
