@@ -214,6 +214,16 @@ func callEvery[A any](t *testing.T, list []A, callAll func(A) [][]any, least int
 	}
 }
 
+// callsFail requires that calls fail.
+func callsFail(t *testing.T, calls [][]any) {
+	t.Helper()
+	for i, call := range calls {
+		if call[len(call)-1] != false {
+			t.Errorf("call %d succeeds", i)
+		}
+	}
+}
+
 // callTogether calls functions at the same time with the same arguments, which they only read.
 func callTogether[A any](t *testing.T, list []A, callAll func(A) [][]any) {
 	t.Helper()
@@ -225,6 +235,43 @@ func callTogether[A any](t *testing.T, list []A, callAll func(A) [][]any) {
 	group.Wait()
 	for i, calls := range got {
 		same(t, "calls", calls, got[i%len(list)])
+	}
+}
+
+// overwrite changes all numbers in the slices of a value.
+func overwrite(v reflect.Value) {
+	switch v.Kind() {
+	case reflect.Slice:
+		for i := range v.Len() {
+			overwrite(v.Index(i))
+		}
+	case reflect.Struct:
+		for i := range v.NumField() {
+			overwrite(v.Field(i))
+		}
+	case reflect.Int64:
+		if v.CanSet() {
+			v.SetInt(4444)
+		}
+	}
+}
+
+// callAndOverwrite writes into results: arguments and later results must not change.
+func callAndOverwrite[A any](t *testing.T, list []A, callAll func(A) [][]any) {
+	t.Helper()
+	for _, x := range list {
+		before := wholeText(reflect.ValueOf(x))
+		calls := callAll(x)
+		want := filledCalls(calls)
+		for _, call := range calls {
+			for _, result := range call {
+				overwrite(reflect.ValueOf(result))
+			}
+		}
+		if wholeText(reflect.ValueOf(x)) != before {
+			t.Fatalf("an argument has changed: %s", before)
+		}
+		same(t, "calls", filledCalls(callAll(x)), want)
 	}
 }
 

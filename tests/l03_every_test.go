@@ -85,16 +85,10 @@ func TestEveryFunctionOfChapter3(t *testing.T) {
 
 // TestLongArgumentsOfChapter3 calls each function with arguments that are much too long.
 func TestLongArgumentsOfChapter3(t *testing.T) {
-	long := fact(math.MinInt64, repeated(math.MinInt64, 100000)...)
-	element := impl.Stmt{Kind: impl.StmtWhile, Sum: long, Index: long, Facts: factsOf(long, 10)}
 	numbers := repeated(math.MaxInt64, 100000)
-	for _, body := range [][]impl.Stmt{slices.Repeat([]impl.Stmt{element}, 100000), {element}, slices.Repeat([]impl.Stmt{{Kind: impl.StmtIf}}, 100000)} {
-		p := impl.Program{Pre: factsOf(long, 1000), Body: body, Post: factsOf(long, 1000)}
-		for i, call := range allOfChapter3(arguments3{p, p, factsOf(long, 1000), impl.State{Vars: numbers, Cells: numbers}, math.MaxInt64, strings.Repeat("if a\n", 100000)}) {
-			if call[len(call)-1] != false {
-				t.Errorf("call %d succeeds", i)
-			}
-		}
+	for _, p := range longPrograms() {
+		terms := factsOf(p.Body[0].Sum, 1000)
+		callsFail(t, allOfChapter3(arguments3{p, p, terms, impl.State{Vars: numbers, Cells: numbers}, math.MaxInt64, strings.Repeat("if a\n", 100000)}))
 	}
 }
 
@@ -113,38 +107,6 @@ func TestSharedArgumentsOfChapter3(t *testing.T) {
 	callTogether(t, someArguments3(40), allOfChapter3)
 }
 
-// overwrite changes all numbers in the slices of a value.
-func overwrite(v reflect.Value) {
-	switch v.Kind() {
-	case reflect.Slice:
-		for i := range v.Len() {
-			overwrite(v.Index(i))
-		}
-	case reflect.Struct:
-		for i := range v.NumField() {
-			overwrite(v.Field(i))
-		}
-	case reflect.Int64:
-		if v.CanSet() {
-			v.SetInt(4444)
-		}
-	}
-}
-
-// TestResultsOfChapter3AreNew writes into results; arguments and later results must not change.
 func TestResultsOfChapter3AreNew(t *testing.T) {
-	for _, x := range someArguments3(300) {
-		before := wholeText(reflect.ValueOf(x))
-		calls := allOfChapter3(x)
-		want := filledCalls(calls)
-		for _, call := range calls {
-			for _, result := range call {
-				overwrite(reflect.ValueOf(result))
-			}
-		}
-		if wholeText(reflect.ValueOf(x)) != before {
-			t.Fatalf("an argument has changed: %s", before)
-		}
-		same(t, "calls", filledCalls(allOfChapter3(x)), want)
-	}
+	callAndOverwrite(t, someArguments3(300), allOfChapter3)
 }

@@ -249,6 +249,17 @@ func badPrograms() []impl.Program {
 	return append(list, impl.Program{Pre: factsOf(fact(0), 7), Body: skip()}, impl.Program{Body: skip(), Post: factsOf(fact(0), 7)}, impl.Program{Pre: factsOf(fact(0), 100000), Body: skip()})
 }
 
+// longPrograms are programs that are much too long everywhere.
+func longPrograms() []impl.Program {
+	long := fact(math.MinInt64, repeated(math.MinInt64, 100000)...)
+	element := impl.Stmt{Kind: impl.StmtWhile, Sum: long, Index: long, Facts: factsOf(long, 10)}
+	var list []impl.Program
+	for _, body := range [][]impl.Stmt{slices.Repeat([]impl.Stmt{element}, 100000), {element}, slices.Repeat([]impl.Stmt{{Kind: impl.StmtIf}}, 100000), slices.Repeat([]impl.Stmt{{Kind: impl.StmtWhile}}, 100000)} {
+		list = append(list, impl.Program{Pre: factsOf(long, 1000), Body: body, Post: factsOf(long, 1000)})
+	}
+	return list
+}
+
 // manyStates are states with small numbers, with numbers at the limits, and mixed ones.
 func manyStates() []impl.State {
 	top := impl.State{Vars: repeated(1e9, 4), Cells: repeated(1e9, 8)}
