@@ -224,6 +224,15 @@ func callsFail(t *testing.T, calls [][]any) {
 	}
 }
 
+// callWithEmpty passes each empty list as nil and as an empty slice.
+func callWithEmpty[A any](t *testing.T, list []A, callAll func(A) [][]any) {
+	t.Helper()
+	for _, x := range list {
+		empty := filled(reflect.ValueOf(x)).Interface().(A)
+		same(t, "nil and empty", filledCalls(callAll(x)), filledCalls(callAll(empty)))
+	}
+}
+
 // callTogether calls functions at the same time with the same arguments, which they only read.
 func callTogether[A any](t *testing.T, list []A, callAll func(A) [][]any) {
 	t.Helper()

@@ -3,7 +3,6 @@ package tests
 import (
 	"math"
 	"math/rand/v2"
-	"reflect"
 	"slices"
 	"strings"
 	"testing"
@@ -92,15 +91,12 @@ func TestLongArgumentsOfChapter3(t *testing.T) {
 	}
 }
 
-// TestNilAndEmptyOfChapter3 passes each empty list as nil and as an empty slice.
 func TestNilAndEmptyOfChapter3(t *testing.T) {
+	list := []arguments3{{}}
 	for _, p := range []impl.Program{programOf(skip()), programOf(sequence(set(0, fact(1)), emit(2), while(fact(-1), skip()))), {}} {
-		x := arguments3{P: p, Q: p, State: state(), Number: 2, Text: "skip\n"}
-		y := filled(reflect.ValueOf(x)).Interface().(arguments3)
-		same(t, "nil and empty", filledCalls(allOfChapter3(x)), filledCalls(allOfChapter3(y)))
+		list = append(list, arguments3{P: p, Q: p, State: state(), Number: 2, Text: "skip\n"})
 	}
-	x := arguments3{P: impl.Program{Body: []impl.Stmt{}}, State: impl.State{Vars: []int64{}, Cells: []int64{}}}
-	same(t, "nil and empty", filledCalls(allOfChapter3(x)), filledCalls(allOfChapter3(arguments3{})))
+	callWithEmpty(t, list, allOfChapter3)
 }
 
 func TestSharedArgumentsOfChapter3(t *testing.T) {

@@ -3,7 +3,6 @@ package tests
 import (
 	"math"
 	"math/rand/v2"
-	"reflect"
 	"slices"
 	"testing"
 
@@ -63,15 +62,14 @@ func TestLongArgumentsOfChapter4(t *testing.T) {
 	}
 }
 
-// TestNilAndEmptyOfChapter4 passes each empty list as nil and as an empty slice.
 func TestNilAndEmptyOfChapter4(t *testing.T) {
+	var list []arguments4
 	for _, p := range []impl.Program{programOf(skip()), programOf(sequence(get(0, fact(1)), emit(2), while(fact(-1), skip()))), {}} {
 		for _, start := range []int64{-1, 0} {
-			x := arguments4{p, start, state()}
-			y := filled(reflect.ValueOf(x)).Interface().(arguments4)
-			same(t, "nil and empty", filledCalls(allOfChapter4(x)), filledCalls(allOfChapter4(y)))
+			list = append(list, arguments4{p, start, state()})
 		}
 	}
+	callWithEmpty(t, list, allOfChapter4)
 }
 
 func TestSharedArgumentsOfChapter4(t *testing.T) {
