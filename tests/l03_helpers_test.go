@@ -236,17 +236,24 @@ func badBodies() [][]impl.Stmt {
 	return list
 }
 
+// badGiven are no lists of facts over variables.
+func badGiven() [][]impl.Term {
+	list := [][]impl.Term{factsOf(fact(0), 7), factsOf(fact(0), 100000)}
+	for _, bad := range append(badTerms(), alone(4, 1), alone(9, 1), fact(0, 1, 1, 1, 1, 1)) {
+		list = append(list, []impl.Term{bad}, []impl.Term{fact(0), bad}, append(factsOf(fact(0), 5), bad))
+	}
+	return list
+}
+
 func badPrograms() []impl.Program {
 	var list []impl.Program
 	for _, body := range badBodies() {
 		list = append(list, programOf(body))
 	}
-	for _, bad := range append(badTerms(), alone(4, 1), alone(9, 1), fact(0, 1, 1, 1, 1, 1)) {
-		for _, terms := range [][]impl.Term{{bad}, {fact(0), bad}, append(factsOf(fact(0), 5), bad)} {
-			list = append(list, impl.Program{Pre: terms, Body: skip()}, impl.Program{Body: skip(), Post: terms})
-		}
+	for _, terms := range badGiven() {
+		list = append(list, impl.Program{Pre: terms, Body: skip()}, impl.Program{Body: skip(), Post: terms})
 	}
-	return append(list, impl.Program{Pre: factsOf(fact(0), 7), Body: skip()}, impl.Program{Body: skip(), Post: factsOf(fact(0), 7)}, impl.Program{Pre: factsOf(fact(0), 100000), Body: skip()})
+	return list
 }
 
 // longPrograms are programs that are much too long everywhere.

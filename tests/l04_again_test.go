@@ -70,7 +70,6 @@ type goalAgain struct {
 
 // pathAgain is a path that is followed alone, with given choices at its first tests, and the first way at all others.
 type pathAgain struct {
-	p       impl.Program
 	path    impl.Path
 	choices []bool
 	tests   int
@@ -78,6 +77,14 @@ type pathAgain struct {
 	symbols int
 	goals   []goalAgain
 	bad     bool
+}
+
+func newPathAgain(start int64, facts []impl.Term, choices []bool) pathAgain {
+	x := pathAgain{path: impl.Path{From: start, Facts: slices.Clone(facts)}, choices: choices, symbols: 4}
+	for i := range x.vars {
+		x.vars[i][i] = 1
+	}
+	return x
 }
 
 func (x *pathAgain) replaced(t impl.Term) row {
@@ -102,6 +109,23 @@ func (x *pathAgain) goal(r row) {
 	x.goals = append(x.goals, goalAgain{x.tests, condition})
 }
 
+func (x *pathAgain) cellGoals(index row) {
+	x.goal(index)
+	x.goal(row{10: 7}.plus(-1, index))
+}
+
+// fresh returns the next symbol, if one is left.
+func (x *pathAgain) fresh() row {
+	if x.symbols == 10 {
+		x.bad = true
+		return row{}
+	}
+	x.symbols++
+	symbol := row{}
+	symbol[x.symbols-1] = 1
+	return symbol
+}
+
 func (x *pathAgain) assume(r row) {
 	x.path.Facts = append(x.path.Facts, x.checked(r).term())
 	x.bad = x.bad || len(x.path.Facts) > 12
@@ -116,9 +140,9 @@ func (x *pathAgain) choice() bool {
 	return x.choices[x.tests-1]
 }
 
-// test follows a test. Its opposite arises on the other way even if this one is the first.
-func (x *pathAgain) test(sum impl.Term) bool {
-	fact := x.checked(x.replaced(sum))
+// part follows a test. Its opposite arises on the other way even if this one is the first.
+func (x *pathAgain) part(fact row) bool {
+	x.checked(fact)
 	opposite := x.checked(row{10: -1}.plus(-1, fact))
 	if x.choice() {
 		x.assume(fact)
@@ -132,16 +156,11 @@ func (x *pathAgain) leaf(e impl.Stmt) {
 	switch index := x.replaced(e.Index); e.Kind {
 	case impl.StmtSet:
 		x.vars[e.Var] = x.checked(x.replaced(e.Sum))
-	case impl.StmtGet, impl.StmtPut:
-		x.goal(index)
-		x.goal(row{10: 7}.plus(-1, index))
-		if e.Kind == impl.StmtGet && x.symbols == 10 {
-			x.bad = true
-		} else if e.Kind == impl.StmtGet {
-			x.vars[e.Var] = row{}
-			x.vars[e.Var][x.symbols] = 1
-			x.symbols++
-		}
+	case impl.StmtGet:
+		x.cellGoals(index)
+		x.vars[e.Var] = x.fresh()
+	case impl.StmtPut:
+		x.cellGoals(index)
 	case impl.StmtEmit:
 		x.path.Events = append(x.path.Events, e.Event)
 	case impl.StmtAssert:
@@ -150,22 +169,22 @@ func (x *pathAgain) leaf(e impl.Stmt) {
 	}
 }
 
-// follow follows a path from an element, where test tells that it is a loop whose test comes first.
-func (x *pathAgain) follow(k int, test bool) {
-	next := nextAgain(x.p.Body)
+// follow follows a path of a program from an element, where test tells that it is a loop whose test comes first.
+func (x *pathAgain) follow(p impl.Program, k int, test bool) {
+	next := nextAgain(p.Body)
 	for k >= 0 {
-		e := x.p.Body[k]
+		e := p.Body[k]
 		switch {
 		case e.Kind == impl.StmtSeq:
 			k++
-		case e.Kind == impl.StmtIf && x.test(e.Sum):
+		case e.Kind == impl.StmtIf && x.part(x.replaced(e.Sum)):
 			k++
 		case e.Kind == impl.StmtIf:
-			k += 1 + sizeOf(x.p.Body[k+1:])
+			k += 1 + sizeOf(p.Body[k+1:])
 		case e.Kind == impl.StmtWhile && !test:
-			x.end(int64(slices.Index(loopsAgain(x.p.Body), k)), e.Facts)
+			x.end(int64(slices.Index(loopsAgain(p.Body), k)), e.Facts)
 			return
-		case e.Kind == impl.StmtWhile && x.test(e.Sum):
+		case e.Kind == impl.StmtWhile && x.part(x.replaced(e.Sum)):
 			k++
 		default:
 			x.leaf(e)
@@ -173,7 +192,7 @@ func (x *pathAgain) follow(k int, test bool) {
 		}
 		test = false
 	}
-	x.end(-1, x.p.Post)
+	x.end(-1, p.Post)
 }
 
 func (x *pathAgain) end(to int64, facts []impl.Term) {
@@ -186,19 +205,14 @@ func (x *pathAgain) end(to int64, facts []impl.Term) {
 	}
 }
 
-func followAgain(p impl.Program, start int64, choices []bool) *pathAgain {
-	x := &pathAgain{p: p, path: impl.Path{From: start}, choices: choices, symbols: 4}
-	for i := range x.vars {
-		x.vars[i][i] = 1
+func followAgain(p impl.Program, start int64, choices []bool) pathAgain {
+	facts, first := p.Pre, 0
+	if start >= 0 {
+		first = loopsAgain(p.Body)[start]
+		facts = p.Body[first].Facts
 	}
-	if start < 0 {
-		x.path.Facts = slices.Clone(p.Pre)
-		x.follow(0, false)
-	} else {
-		loop := loopsAgain(p.Body)[start]
-		x.path.Facts = slices.Clone(p.Body[loop].Facts)
-		x.follow(loop, true)
-	}
+	x := newPathAgain(start, facts, choices)
+	x.follow(p, first, start >= 0)
 	return x
 }
 
@@ -212,12 +226,12 @@ func choicesAfter(choices []bool) ([]bool, bool) {
 	return nil, false
 }
 
-// pathsAgain returns the paths and conditions of some starts by another way: each path is followed alone from its start. It tells whether the paths exist, and whether the conditions do.
-func pathsAgain(p impl.Program, starts ...int64) (paths []impl.Path, conditions []impl.Sequent, ok, few bool) {
+// pathsAgain returns the paths and conditions of some starts of a program, or of annotated code, by another way: each path is followed alone from its start. It tells whether the paths exist, and whether the conditions do.
+func pathsAgain[A any](source A, follow func(A, int64, []bool) pathAgain, starts ...int64) (paths []impl.Path, conditions []impl.Sequent, ok, few bool) {
 	for _, start := range starts {
 		var choices []bool
 		for more := true; more; {
-			x := followAgain(p, start, choices)
+			x := follow(source, start, choices)
 			if paths = append(paths, x.path); x.bad || len(paths) > 200 {
 				return nil, nil, false, false
 			}
@@ -249,13 +263,13 @@ func TestPathsAgain(t *testing.T) {
 	count := map[[2]bool]int{}
 	for _, p := range slices.Concat(manyPrograms(600), tamePrograms(600), crowdedPrograms(600)) {
 		for _, start := range startsAgain(p) {
-			wantPaths, wantConditions, ok, few := pathsAgain(p, start)
+			wantPaths, wantConditions, ok, few := pathsAgain(p, followAgain, start)
 			paths, one := impl.PathsFrom(p, start)
 			same(t, "PathsFrom", results(paths, one), results(wantPaths, ok))
 			conditions, two := impl.ConditionsFrom(p, start)
 			same(t, "ConditionsFrom", results(conditions, two), results(wantConditions, few))
 		}
-		wantPaths, wantConditions, ok, few := pathsAgain(p, startsAgain(p)...)
+		wantPaths, wantConditions, ok, few := pathsAgain(p, followAgain, startsAgain(p)...)
 		paths, one := impl.PathsOfProgram(p)
 		same(t, "PathsOfProgram", results(paths, one), results(wantPaths, ok))
 		conditions, two := impl.ConditionsOfProgram(p)

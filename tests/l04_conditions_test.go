@@ -181,7 +181,7 @@ func TestConditionsAreSequents(t *testing.T) {
 		for _, s := range list {
 			same(t, "a valid sequent", impl.ValidSequent(s), true)
 		}
-		_, found, many, few := pathsAgain(p, startsAgain(p)...)
+		_, found, many, few := pathsAgain(p, followAgain, startsAgain(p)...)
 		same(t, "conditions", results(ok, len(list)), results(many && few, len(found)))
 	}
 }

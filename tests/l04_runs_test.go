@@ -67,9 +67,8 @@ func allAtLeast0(list []impl.Term, values []int64) bool {
 }
 
 // isPathOf requires that a leg which has come to its end is that of exactly one path, and that a leg which an assertion has stopped is that of none.
-func (x leg) isPathOf(t *testing.T, p impl.Program, start int64, paths []impl.Path) {
+func (x leg) isPathOf(t *testing.T, given []impl.Term, start int64, paths []impl.Path) {
 	t.Helper()
-	given, _ := impl.StartFacts(p, start)
 	var fitting []impl.Path
 	for _, path := range paths {
 		same(t, "facts of the start", results(path.Facts[:len(given)]), results(given))
@@ -83,7 +82,7 @@ func (x leg) isPathOf(t *testing.T, p impl.Program, start int64, paths []impl.Pa
 		return
 	}
 	if len(fitting) != 1 {
-		t.Fatalf("%d paths fit to a run of %s from %d", len(fitting), shown(p), start)
+		t.Fatalf("%d of the paths %v fit to a run from %d", len(fitting), pathTexts(paths), start)
 	}
 	var ends []int64
 	for _, term := range fitting[0].Ends {
@@ -92,25 +91,94 @@ func (x leg) isPathOf(t *testing.T, p impl.Program, start int64, paths []impl.Pa
 	same(t, "the end of a path", results(fitting[0].To, ends, fitting[0].Events), results(x.to, x.last.Vars, x.events))
 }
 
-// isBroken reports whether a leg shows that a program does not keep its promises.
-func (x leg) isBroken(p impl.Program) bool {
-	if x.to >= 0 {
-		holds, _ := impl.HoldsAt(p, x.to, x.last)
-		return !holds
-	}
+// isBroken reports whether a leg breaks a promise, where some facts are promised at its end.
+func (x leg) isBroken(facts []impl.Term) bool {
 	if x.outcome == impl.OutDone {
-		return !allAtLeast0(p.Post, x.last.Vars)
+		return !allAtLeast0(facts, x.last.Vars)
 	}
 	return x.outcome == impl.OutCell || x.outcome == impl.OutAssert
+}
+
+// endFacts returns the facts that a program promises at the loop or end to which a leg comes.
+func (x leg) endFacts(p impl.Program) []impl.Term {
+	if x.to < 0 {
+		return p.Post
+	}
+	facts, _ := impl.StartFacts(p, x.to)
+	return facts
 }
 
 func (x leg) isCounterOf(list []impl.Sequent) bool {
 	return slices.ContainsFunc(list, func(s impl.Sequent) bool { return impl.IsCounter(s, x.symbols()) })
 }
 
+// knownOfStart is what is known of a start of a program or of code.
+type knownOfStart struct {
+	start      int64
+	given      []impl.Term
+	paths      []impl.Path
+	conditions []impl.Sequent
+	// few tells whether the conditions exist.
+	few bool
+}
+
+// legCounts counts legs, and of those where the facts of the start hold, those that break a promise.
+type legCounts struct{ legs, broken, kept int }
+
+// add requires that a leg is that of a path. Where the facts of the start hold, it must be a counterexample of a condition if and only if it breaks a promise, also that of some facts at its end.
+func (c *legCounts) add(t *testing.T, x leg, known knownOfStart, promised []impl.Term) {
+	t.Helper()
+	x.isPathOf(t, known.given, known.start, known.paths)
+	c.legs++
+	if !known.few || x.outcome == impl.OutRange || !allAtLeast0(known.given, x.values) {
+		return
+	}
+	isBroken := x.isBroken(promised)
+	same(t, "a counterexample", x.isCounterOf(known.conditions), isBroken)
+	if isBroken {
+		c.broken++
+	} else {
+		c.kept++
+	}
+}
+
+func (c *legCounts) areMany(t *testing.T) {
+	t.Helper()
+	if c.legs < 5000 || c.broken < 500 || c.kept < 500 {
+		t.Errorf("only %v", *c)
+	}
+}
+
+// chained follows legs from the entry to the end of a run. It returns the last one with the events of all, and whether one of them is a counterexample.
+func chained(s impl.State, legFrom func(start int64, s impl.State) leg, conditions []impl.Sequent) (leg, bool) {
+	x := leg{to: -1}
+	x.last = s
+	counter := false
+	var events []int64
+	for more := true; more; more = x.to >= 0 {
+		x = legFrom(x.to, x.last)
+		events = append(events, x.events...)
+		counter = counter || x.isCounterOf(conditions)
+	}
+	x.events = events
+	return x, counter
+}
+
+// endOutcomes counts how runs end.
+type endOutcomes map[int64]int
+
+func (c endOutcomes) areMany(t *testing.T) {
+	t.Helper()
+	for _, outcome := range []int64{impl.OutDone, impl.OutCell, impl.OutAssert} {
+		if c[outcome] < 20 {
+			t.Errorf("only %d runs end with %d", c[outcome], outcome)
+		}
+	}
+}
+
 // TestPathsAreExecutions runs programs from all starts, in states of any kind, and compares with the paths. Where the facts of the start hold, the run is a counterexample of a condition if and only if it breaks one.
 func TestPathsAreExecutions(t *testing.T) {
-	var legs, broken, kept int
+	var counts legCounts
 	for i, p := range slices.Concat(tamePrograms(600), manyPrograms(300), crowdedPrograms(100)) {
 		for _, start := range startsAgain(p) {
 			paths, ok := impl.PathsFrom(p, start)
@@ -118,26 +186,16 @@ func TestPathsAreExecutions(t *testing.T) {
 				continue
 			}
 			conditions, few := impl.ConditionsFrom(p, start)
+			given, _ := impl.StartFacts(p, start)
+			known := knownOfStart{start, given, paths, conditions, few}
 			for k := range 5 {
 				s := manyStates()[(i+3*k)%13]
 				x := legOf(p, start, s)
-				x.isPathOf(t, p, start, paths)
-				legs++
-				if holds, _ := impl.HoldsAt(p, start, s); !holds || !few || x.outcome == impl.OutRange {
-					continue
-				}
-				same(t, shown(p), x.isCounterOf(conditions), x.isBroken(p))
-				if x.isBroken(p) {
-					broken++
-				} else {
-					kept++
-				}
+				counts.add(t, x, known, x.endFacts(p))
 			}
 		}
 	}
-	if legs < 5000 || broken < 500 || kept < 500 {
-		t.Errorf("%d legs, of which %d break a condition and %d do not", legs, broken, kept)
-	}
+	counts.areMany(t)
 }
 
 // TestStraightPathsAreRuns compares the paths of programs without loops and StmtGet with their runs.
@@ -151,7 +209,7 @@ func TestStraightPathsAreRuns(t *testing.T) {
 		for _, s := range manyStates() {
 			r := runOf(t, p, s, 2000)
 			if r.outcome == impl.OutDone {
-				leg{r, -1, s.Vars}.isPathOf(t, p, -1, paths)
+				leg{r, -1, s.Vars}.isPathOf(t, p.Pre, -1, paths)
 				count++
 			}
 		}
@@ -163,7 +221,7 @@ func TestStraightPathsAreRuns(t *testing.T) {
 
 // TestRunsOfPaths follows whole runs from path to path. A run from a state in which Pre holds can only break the program where it is a counterexample of a condition.
 func TestRunsOfPaths(t *testing.T) {
-	outcomes := map[int64]int{}
+	outcomes := endOutcomes{}
 	for i, p := range tamePrograms(900) {
 		conditions, ok := impl.ConditionsOfProgram(p)
 		s := manyStates()[i%13]
@@ -171,26 +229,14 @@ func TestRunsOfPaths(t *testing.T) {
 		if holds, _ := impl.HoldsAt(p, -1, s); !ok || !holds || whole.outcome == impl.OutFuel {
 			continue
 		}
-		x := leg{to: -1}
-		x.last = s
-		counter := false
-		var events []int64
-		for more := true; more; more = x.to >= 0 {
-			x = legOf(p, x.to, x.last)
-			events = append(events, x.events...)
-			counter = counter || x.isCounterOf(conditions)
-		}
-		same(t, "the end of a run", results(x.last, events, x.outcome), results(whole.last, whole.events, whole.outcome))
-		if x.isBroken(p) && !counter {
+		x, counter := chained(s, func(start int64, s impl.State) leg { return legOf(p, start, s) }, conditions)
+		same(t, "the end of a run", results(x.last, x.events, x.outcome), results(whole.last, whole.events, whole.outcome))
+		if x.isBroken(x.endFacts(p)) && !counter {
 			t.Errorf("no condition is broken by the run of %s from %s", shown(p), shown(s))
 		}
 		outcomes[whole.outcome]++
 	}
-	for _, outcome := range []int64{impl.OutDone, impl.OutCell, impl.OutAssert} {
-		if outcomes[outcome] < 20 {
-			t.Errorf("only %d runs end with %d", outcomes[outcome], outcome)
-		}
-	}
+	outcomes.areMany(t)
 }
 
 // TestProvedProgram runs a program whose conditions have no counterexample: it fills cells up to a place that is read from a cell.

@@ -127,17 +127,23 @@ func isSafe(p impl.Program, r run) bool {
 	return false
 }
 
-// TestProvedProgramsAreSafe runs programs whose conditions are proved, and others, some of which break what they promise.
-func TestProvedProgramsAreSafe(t *testing.T) {
+// smallStates are states with numbers around those of cells.
+func smallStates(count int) []impl.State {
 	random := rand.New(rand.NewPCG(51, 52))
-	states := manyStates()
-	for range 30 {
+	var list []impl.State
+	for range count {
 		s := state(random.Int64N(12)-2, random.Int64N(12)-2, random.Int64N(12)-2, random.Int64N(12)-2)
 		for i := range s.Cells {
 			s.Cells[i] = random.Int64N(14) - 3
 		}
-		states = append(states, s)
+		list = append(list, s)
 	}
+	return list
+}
+
+// TestProvedProgramsAreSafe runs programs whose conditions are proved, and others, some of which break what they promise.
+func TestProvedProgramsAreSafe(t *testing.T) {
+	states := append(manyStates(), smallStates(30)...)
 	counts := map[string]int{}
 	for _, p := range slices.Concat(guardedPrograms(1500), tamePrograms(600)) {
 		proved := areProofsOf(t, p, 60)

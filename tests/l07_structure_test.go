@@ -52,6 +52,21 @@ func heightsAgain(code []impl.Instr) (map[int64]map[int]bool, bool) {
 	return heights, fits
 }
 
+// levelsAgain returns the height at each instruction, and whether there is but one, by another way.
+func levelsAgain(code []impl.Instr) ([]int64, bool) {
+	all, fits := heightsAgain(code)
+	levels := repeated(-1, len(code))
+	for place, heights := range all {
+		fits = fits && len(heights) == 1
+		for height := range heights {
+			if place < int64(len(code)) {
+				levels[place] = int64(height)
+			}
+		}
+	}
+	return levels, fits
+}
+
 // reachAgain returns the instructions that are reached, by another way.
 func reachAgain(code []impl.Instr) []int64 {
 	reached := map[int64]bool{}
@@ -214,16 +229,7 @@ func TestFaultsOfTheStack(t *testing.T) {
 func TestStackHeightsAgain(t *testing.T) {
 	succeeded := 0
 	for _, code := range append(manyCodes(3000), validCodes()...) {
-		all, fits := heightsAgain(code)
-		want := repeated(-1, len(code))
-		for place, heights := range all {
-			fits = fits && len(heights) == 1
-			for height := range heights {
-				if place < int64(len(code)) {
-					want[place] = int64(height)
-				}
-			}
-		}
+		want, fits := levelsAgain(code)
 		got, ok := impl.StackHeights(code)
 		if !fits {
 			fails(t, shown(code), got, ok)
